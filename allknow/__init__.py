@@ -1,0 +1,1 @@
+"""Allknow: who can come to know which parities in a network of links, and how."""
