@@ -86,6 +86,30 @@ def node_number(network, node):
     return letters.index(node)
 
 
+def require_set(network, nodes):
+    """Raises NoSet if a text is no set of nodes of the network."""
+    if nodes == "" or not is_ascending(network.node_letters(), nodes):
+        raise NoSet(f"no set of nodes of {network.node_letters()}: {nodes!r}")
+
+
+def has_link(network, link):
+    """True if the network has a link with this number, otherwise False."""
+    return link >= 0 and link < len(network.links)
+
+
+def require_link(network, link):
+    """Raises NoLink if the network has no link with this number."""
+    if not has_link(network, link):
+        raise NoLink(f"no link with the number {link}")
+
+
+def require_message(network, node, index):
+    """Raises NoNode if a text is no node of the network, NoMessage if it has no message with this index."""
+    messages = network.messages(node)
+    if index < 0 or index >= len(messages):
+        raise NoMessage(f"{node} has no message with the index {index}")
+
+
 def first_letters(letters, count):
     """So many of the letters; none if the count is below 0."""
     return letters[:max(0, count)]

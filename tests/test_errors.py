@@ -1,10 +1,16 @@
-"""The error classes of allknow.errors, allknow.networks and allknow.texts."""
+"""The error classes of the package."""
 
 import unittest
 
 from allknow.errors import KnowError
 from allknow.networks import BadNetwork, NoLink, NoMessage, NoNode, NoSet
+from allknow.node_sets import NotFeasible
+from allknow.spans import BadParity
+from allknow.steps import Fault
 from allknow.texts import BadOrder, BadText, TooLong
+
+
+KINDS = (BadNetwork, NoNode, NoSet, NoLink, NoMessage, BadText, TooLong, BadOrder, BadParity, Fault, NotFeasible)
 
 
 class ErrorClasses(unittest.TestCase):
@@ -12,16 +18,14 @@ class ErrorClasses(unittest.TestCase):
         self.assertTrue(issubclass(KnowError, ValueError))
 
     def test_all_are_under_know_error(self):
-        kinds = (BadNetwork, NoNode, NoSet, NoLink, NoMessage, BadText, TooLong, BadOrder)
-        for kind in kinds:
+        for kind in KINDS:
             with self.subTest(kind=kind.__name__):
                 self.assertTrue(issubclass(kind, KnowError))
                 self.assertIsNot(kind, KnowError)
 
     def test_none_is_under_another_one(self):
-        kinds = (BadNetwork, NoNode, NoSet, NoLink, NoMessage, BadText, TooLong, BadOrder)
-        for kind in kinds:
-            for other in kinds:
+        for kind in KINDS:
+            for other in KINDS:
                 if kind is not other:
                     with self.subTest(kind=kind.__name__, other=other.__name__):
                         self.assertFalse(issubclass(kind, other))
@@ -38,8 +42,16 @@ class ErrorClasses(unittest.TestCase):
         self.assertEqual(BadText(7).position, 7)
         self.assertEqual(BadText(position=0).position, 0)
 
+    def test_bad_parity_has_its_text(self):
+        self.assertEqual(BadParity("ba").text, "ba")
+        self.assertEqual(BadParity(text="").text, "")
+
+    def test_fault_has_its_number(self):
+        self.assertEqual(Fault(3).number, 3)
+        self.assertEqual(Fault(number=0).number, 0)
+
     def test_the_others_can_be_raised_without_anything(self):
-        for kind in (KnowError, NoNode, NoSet, NoLink, NoMessage, TooLong, BadOrder):
+        for kind in (KnowError, NoNode, NoSet, NoLink, NoMessage, TooLong, BadOrder, NotFeasible):
             with self.subTest(kind=kind.__name__):
                 with self.assertRaises(kind):
                     raise kind()

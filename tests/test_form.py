@@ -22,6 +22,32 @@ INTERFACE = {
         "read_network": ["text"], "write_network": ["network"], "relabelled": ["network", "order"],
         "is_same": ["first", "second"], "isomorphism": ["first", "second"],
     },
+    "spans.py": {
+        "BadParity": None, "BadParity.__init__": ["self", "text"],
+        "message_rank": ["messages"], "is_derived": ["messages", "parity"], "basis": ["messages"],
+        "combination": ["messages", "parity"], "separating": ["variables", "messages", "parity"],
+        "redundant": ["messages"], "is_equivalent": ["first", "second"], "odd_ones": ["messages", "assignment"],
+        "assignments": ["variables", "messages", "told"],
+    },
+    "steps.py": {
+        "Fault": None, "Fault.__init__": ["self", "number"],
+        "fault": ["network", "steps"], "ranks": ["network", "steps"], "informed": ["network", "steps"],
+        "known": ["network", "steps", "node"], "earliest": ["network", "steps", "node", "parity"],
+        "carried": ["network", "steps", "assignment"], "idle_steps": ["network", "steps"],
+        "reduced": ["network", "steps"], "can_swap": ["network", "steps", "number"],
+    },
+    "node_sets.py": {
+        "NotFeasible": None,
+        "deficient_sets": ["network"], "tight_sets": ["network"], "first_deficient": ["network"],
+        "node_set": ["network", "nodes"], "around": ["network", "node"], "without": ["network", "node", "other"],
+        "can_carry": ["network", "link"],
+    },
+    "schedules.py": {
+        "first_schedule": ["network"], "is_complete": ["network", "transmissions"],
+        "next_transmissions": ["network", "transmissions"], "schedule_fault": ["network", "transmissions"],
+        "holdings": ["network", "transmissions"], "tree": ["network", "transmissions", "origin", "index"],
+        "time_slots": ["network", "transmissions"],
+    },
 }
 
 LIBRARY = {

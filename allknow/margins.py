@@ -1,0 +1,62 @@
+"""What sets of nodes can derive together, and how many links enter them (part D).
+
+While messages are sent the same is asked again and again, so what the nodes have, and which
+links are left, is handed in here.
+"""
+
+from itertools import combinations
+
+from allknow.parities import spanned
+
+
+class Margins:
+    """All sets of nodes, in order: what each can derive, and how many links enter it beyond its demand.
+
+    The nodes come with the span of what they have, in a dict; the links are texts.
+    """
+
+    def __init__(self, node_spans, links):
+        letters = "".join(list(node_spans))
+        self.spans = {}
+        for nodes in ordered_sets(letters):
+            smaller = self.spans.get(nodes[:-1], [])
+            self.spans[nodes] = spanned(node_spans[nodes[-1]], smaller)
+        self.demands = {}
+        self.beyond = {}
+        for nodes, span in self.spans.items():
+            self.demands[nodes] = len(self.spans[letters]) - len(span)
+            self.beyond[nodes] = len(entering(links, nodes)) - self.demands[nodes]
+
+    def deficient(self):
+        """The list of the sets that fewer links enter than their demand."""
+        return [nodes for nodes, beyond in self.beyond.items() if beyond < 0]
+
+    def tight(self):
+        """The list of the sets that just as many links enter as their demand."""
+        return [nodes for nodes, beyond in self.beyond.items() if beyond == 0]
+
+    def first_deficient(self):
+        """The first deficient set, or None if there is none."""
+        for nodes, beyond in self.beyond.items():
+            if beyond < 0:
+                return nodes
+        return None
+
+
+def ordered_sets(letters):
+    """The list of all sets of nodes, in order."""
+    sets = []
+    for size in range(1, len(letters) + 1):
+        for chosen in combinations(letters, size):
+            sets.append("".join(chosen))
+    return sets
+
+
+def enters(link, nodes):
+    """True if a link enters a set of nodes, both told by their texts."""
+    return link[0] not in nodes and link[1] in nodes
+
+
+def entering(links, nodes):
+    """The ascending list of the numbers of the links that enter a set of nodes."""
+    return [number for number, link in enumerate(links) if enters(link, nodes)]

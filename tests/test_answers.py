@@ -1,0 +1,209 @@
+"""[0.3]: of the functions of parts B to E together: what they return, what they leave alone, how long they take."""
+
+import copy
+import itertools
+import random
+import time
+import unittest
+
+from allknow import node_sets, schedules, spans, steps
+from allknow.texts import read_network
+from tests import reference
+from tests.samples import DEFICIENT, FEASIBLE, GREATEST, facts
+
+EXAMPLE = read_network("2: a, b | | ; AB, AB, BC, AC")
+MESSAGES = ["ab", "bc", "", "ac", "ab"]
+STEPS = [[0, "ab"], (1, "ab"), [2, "ab"], (3, "a")]
+SENT = [[0, "A", 0], (1, "A", 1), [2, "A", 0]]
+NO_SCHEDULE = [[0, "A", 0], [0, "A", 0]]
+
+CALLS = (
+    (spans.message_rank, (MESSAGES,)),
+    (spans.is_derived, (MESSAGES, "ac")),
+    (spans.basis, (MESSAGES,)),
+    (spans.combination, (MESSAGES, "ac")),
+    (spans.combination, (MESSAGES, "a")),
+    (spans.separating, (3, MESSAGES, "a")),
+    (spans.redundant, (MESSAGES,)),
+    (spans.is_equivalent, (MESSAGES, ["ab", "ac"])),
+    (spans.odd_ones, (MESSAGES, "ab")),
+    (spans.assignments, (3, MESSAGES, [True, True, False, False, True])),
+    (steps.fault, (EXAMPLE, STEPS)),
+    (steps.ranks, (EXAMPLE, STEPS)),
+    (steps.informed, (EXAMPLE, STEPS)),
+    (steps.known, (EXAMPLE, STEPS, "C")),
+    (steps.earliest, (EXAMPLE, STEPS, "C", "a")),
+    (steps.carried, (EXAMPLE, STEPS, "a")),
+    (steps.idle_steps, (EXAMPLE, STEPS)),
+    (steps.reduced, (EXAMPLE, STEPS)),
+    (steps.can_swap, (EXAMPLE, STEPS, 0)),
+    (steps.can_swap, (EXAMPLE, STEPS, 2)),
+    (node_sets.deficient_sets, (EXAMPLE,)),
+    (node_sets.tight_sets, (EXAMPLE,)),
+    (node_sets.first_deficient, (EXAMPLE,)),
+    (node_sets.node_set, (EXAMPLE, "BC")),
+    (node_sets.around, (EXAMPLE, "B")),
+    (node_sets.without, (EXAMPLE, "B", "C")),
+    (node_sets.can_carry, (EXAMPLE, 0)),
+    (schedules.first_schedule, (EXAMPLE,)),
+    (schedules.is_complete, (EXAMPLE, SENT)),
+    (schedules.next_transmissions, (EXAMPLE, SENT)),
+    (schedules.schedule_fault, (EXAMPLE, SENT)),
+    (schedules.schedule_fault, (EXAMPLE, NO_SCHEDULE)),
+    (schedules.holdings, (EXAMPLE, SENT)),
+    (schedules.holdings, (EXAMPLE, NO_SCHEDULE)),
+    (schedules.tree, (EXAMPLE, SENT, "A", 0)),
+    (schedules.time_slots, (EXAMPLE, SENT)),
+)
+
+WRONG_CALLS = (
+    (spans.assignments, (3, ["ab", "ba", "c"], [True, False, True])),
+    (spans.combination, (["ab"], "ba")),
+    (steps.ranks, (EXAMPLE, [[0, "a"], [0, "b"]])),
+    (steps.can_swap, (EXAMPLE, [[2, "a"], [0, "a"]], 0)),
+    (steps.earliest, (EXAMPLE, [[0, "a"]], "B", "ba")),
+    (schedules.is_complete, (EXAMPLE, [[0, "A", 0], [9, "A", 0]])),
+    (schedules.tree, (EXAMPLE, [[0, "A", 0]], "A", 9)),
+)
+
+LONGEST = 5
+
+
+def as_told(value):
+    """What an argument tells, so that it can be compared later."""
+    return facts(value) if hasattr(value, "links") else copy.deepcopy(value)
+
+
+def within(value):
+    """A value and all that stands within it."""
+    found = [value]
+    if isinstance(value, (tuple, list)):
+        for part in value:
+            found.extend(within(part))
+    return found
+
+
+class Answers(unittest.TestCase):
+    def test_every_function_is_called_here(self):
+        called = {function for function, _ in CALLS}
+        for module in (spans, steps, node_sets, schedules):
+            for name, value in vars(module).items():
+                is_own = getattr(value, "__module__", "") == module.__name__ and not isinstance(value, type)
+                if is_own and not name.startswith("_") and name != "parity_mask":
+                    self.assertIn(value, called, name)
+
+    def test_no_function_changes_its_arguments(self):
+        for function, arguments in CALLS:
+            before = [as_told(value) for value in arguments]
+            function(*arguments)
+            with self.subTest(function=function.__name__):
+                self.assertEqual([as_told(value) for value in arguments], before)
+
+    def test_nor_does_a_call_that_raises_an_error(self):
+        for function, arguments in WRONG_CALLS:
+            before = [as_told(value) for value in arguments]
+            self.assertRaises(ValueError, function, *arguments)
+            with self.subTest(function=function.__name__):
+                self.assertEqual([as_told(value) for value in arguments], before)
+
+    def test_what_is_returned_are_tuples_also_within(self):
+        for function, arguments in CALLS:
+            with self.subTest(function=function.__name__):
+                for value in within(function(*arguments)):
+                    self.assertIn(type(value), (tuple, str, int, bool, type(None)))
+
+    def test_the_same_call_is_answered_alike_again(self):
+        for function, arguments in CALLS:
+            with self.subTest(function=function.__name__):
+                self.assertEqual(function(*arguments), function(*arguments))
+
+    def test_later_changes_of_steps_change_nothing(self):
+        told = [[0, "ab"], [1, "a"]]
+        answer = steps.reduced(EXAMPLE, told)
+        told[0][1] = "b"
+        told.clear()
+        self.assertEqual(answer, ((0, "ab"), (1, "a")))
+
+
+class Speed(unittest.TestCase):
+    """The greatest inputs that the document allows are answered within a few seconds."""
+
+    def quickly(self, function, *arguments):
+        start = time.monotonic()
+        answer = function(*arguments)
+        with self.subTest(function=function.__name__):
+            self.assertLess(time.monotonic() - start, LONGEST)
+        return answer
+
+    def test_spans(self):
+        chance = random.Random(51)
+        every = reference.parities("abcdefgh")
+        for messages in (every, every * 8, chance.choices(every, k=2000), ["abcdefgh"] * 2000,
+                         list("abcdefgh") * 250):
+            total = self.quickly(spans.message_rank, messages)
+            told = spans.odd_ones(messages, "bdh")
+            self.assertEqual(len(self.quickly(spans.basis, messages)), total)
+            self.quickly(spans.is_derived, messages, "aceg")
+            self.quickly(spans.combination, messages, "abcdefgh")
+            self.quickly(spans.combination, messages, "aceg")
+            self.quickly(spans.separating, 8, messages, "aceg")
+            self.quickly(spans.redundant, messages)
+            self.assertIs(self.quickly(spans.is_equivalent, messages, messages[::-1]), True)
+            self.assertEqual(self.quickly(spans.assignments, 8, messages, told)[0], 1 << (8 - total))
+
+    def test_steps(self):
+        for text in GREATEST:
+            network = read_network(text)
+            told = tuple((link, network.messages(sender)[0]) for link, (sender, _) in enumerate(network.links))
+            self.assertEqual(len(told), 16)
+            self.assertIsNone(self.quickly(steps.fault, network, told))
+            for function in (steps.ranks, steps.informed, steps.idle_steps, steps.reduced):
+                self.quickly(function, network, told)
+            self.quickly(steps.known, network, told, "F")
+            self.quickly(steps.earliest, network, told, "F", "abcdef")
+            self.quickly(steps.carried, network, told, "abcdefgh")
+            self.quickly(steps.can_swap, network, told, 14)
+
+    def test_node_sets(self):
+        for text in GREATEST:
+            network = read_network(text)
+            for function in (node_sets.tight_sets, node_sets.deficient_sets, node_sets.first_deficient):
+                self.quickly(function, network)
+            self.quickly(node_sets.node_set, network, "ABCDEF")
+            if node_sets.first_deficient(network) is None:
+                self.quickly(node_sets.around, network, "F")
+                self.quickly(node_sets.without, network, "A", "F")
+                self.quickly(node_sets.can_carry, network, 15)
+
+    def test_schedules(self):
+        lengths = []
+        for text in GREATEST:
+            network = read_network(text)
+            schedule = self.quickly(schedules.first_schedule, network)
+            if schedule is not None:
+                lengths.append(len(schedule))
+            told = schedule or ()
+            self.quickly(schedules.is_complete, network, told)
+            self.quickly(schedules.next_transmissions, network, told)
+            self.quickly(schedules.next_transmissions, network, told[:8])
+            self.quickly(schedules.schedule_fault, network, told)
+            self.quickly(schedules.holdings, network, told)
+            self.quickly(schedules.tree, network, told, "A", 0)
+            self.quickly(schedules.time_slots, network, told)
+        self.assertEqual(max(lengths), 16)
+
+    def test_all_orders_of_the_links_of_a_network(self):
+        network = read_network(FEASIBLE[6])
+        start = time.monotonic()
+        for links in itertools.permutations(network.links):
+            other = type(network)(network.variables, network.nodes, links)
+            self.assertEqual(len(schedules.first_schedule(other)), 4)
+        self.assertLess(time.monotonic() - start, LONGEST)
+
+    def test_networks_with_a_deficient_set(self):
+        for text in DEFICIENT:
+            self.assertIsNone(self.quickly(schedules.first_schedule, read_network(text)))
+
+
+if __name__ == "__main__":
+    unittest.main()
