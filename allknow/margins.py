@@ -6,7 +6,7 @@ links are left, is handed in here.
 
 from itertools import combinations
 
-from allknow.parities import spanned
+from allknow.parities import first_masks, remainder, spanned
 
 
 class Margins:
@@ -17,6 +17,7 @@ class Margins:
 
     def __init__(self, node_spans, links):
         letters = "".join(list(node_spans))
+        self.letters = letters
         self.spans = {}
         for nodes in ordered_sets(letters):
             smaller = self.spans.get(nodes[:-1], [])
@@ -41,6 +42,45 @@ class Margins:
             if beyond < 0:
                 return nodes
         return None
+
+    def is_feasible(self):
+        """True if no set is deficient, otherwise False."""
+        return self.first_deficient() is None
+
+    def needed(self):
+        """What the demands of the single nodes add up to."""
+        return sum([self.demands[node] for node in self.letters])
+
+    def tolerance(self):
+        """By how many links at least the sets with a demand are entered beyond it; None if there are none."""
+        beyond = [self.beyond[nodes] for nodes, demand in self.demands.items() if demand > 0]
+        return min(beyond, default=None)
+
+    def tolerance_after(self, link, mask):
+        """The same when a link, a text, has carried a parity that its sender can derive."""
+        beyond = []
+        for nodes, demand in self.demands.items():
+            # Where the sender is in the set, too, the set can derive the parity already: nothing changes.
+            is_entered = enters(link, nodes)
+            is_new = is_entered and remainder(self.spans[nodes], mask) != 0
+            if demand > (1 if is_new else 0):
+                beyond.append(self.beyond[nodes] - (1 if is_entered and not is_new else 0))
+        return min(beyond, default=None)
+
+
+def first_spans(network):
+    """For each node, by its letter, the span of its messages."""
+    return {node: spanned(masks) for node, masks in first_masks(network).items()}
+
+
+def margins_of(network):
+    """All sets of nodes of a network, with the first messages and all links."""
+    return Margins(first_spans(network), network.links)
+
+
+def suffices(node_spans, links):
+    """True if no set of nodes is deficient with these spans and links, otherwise False."""
+    return Margins(node_spans, links).is_feasible()
 
 
 def ordered_sets(letters):

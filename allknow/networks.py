@@ -125,6 +125,13 @@ def is_ascending(letters, text):
     return True
 
 
+def are_counts(values, count):
+    """True if values are so many whole numbers from 0 on, otherwise False."""
+    if not isinstance(values, (list, tuple)) or len(values) != count:
+        return False
+    return all([isinstance(value, int) and not isinstance(value, bool) and value >= 0 for value in values])
+
+
 def _check_variables(variables):
     if variables < 0 or variables > MOST_VARIABLES:
         raise BadNetwork("variables", None, "range")

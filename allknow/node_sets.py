@@ -1,9 +1,9 @@
 """Sets of nodes: into which of them too few links lead, or just as many as needed (part D)."""
 
 from allknow.errors import KnowError
-from allknow.margins import Margins, entering
+from allknow.margins import entering, margins_of
 from allknow.networks import node_number, require_link, require_set
-from allknow.parities import first_masks, mask_of, remainder, spanned
+from allknow.parities import mask_of, remainder
 
 
 class NotFeasible(KnowError):
@@ -12,23 +12,23 @@ class NotFeasible(KnowError):
 
 def deficient_sets(network):
     """The tuple of all deficient sets, in order."""
-    return tuple(_first_margins(network).deficient())
+    return tuple(margins_of(network).deficient())
 
 
 def tight_sets(network):
     """The tuple of all tight sets, in order."""
-    return tuple(_first_margins(network).tight())
+    return tuple(margins_of(network).tight())
 
 
 def first_deficient(network):
     """The first deficient set, or None if there is none."""
-    return _first_margins(network).first_deficient()
+    return margins_of(network).first_deficient()
 
 
 def node_set(network, nodes):
     """The tuple (rank, demand, links, is_tight, is_deficient) of a set of nodes."""
     require_set(network, nodes)
-    margins = _first_margins(network)
+    margins = margins_of(network)
     links = tuple(entering(network.links, nodes))
     beyond = margins.beyond[nodes]
     return (len(margins.spans[nodes]), margins.demands[nodes], links, beyond == 0, beyond < 0)
@@ -37,7 +37,7 @@ def node_set(network, nodes):
 def around(network, node):
     """Of the tight sets with a node and a demand above 0 the first one, or None."""
     node_number(network, node)
-    margins = _feasible_margins(network)
+    margins = feasible_margins(network)
     for nodes in margins.tight():
         if node in nodes and margins.demands[nodes] > 0:
             return nodes
@@ -48,7 +48,7 @@ def without(network, node, other):
     """The union of all tight sets with the one node and without the other, or None."""
     node_number(network, node)
     node_number(network, other)
-    return _union_without(network, _feasible_margins(network), node, other)
+    return _union_without(network, feasible_margins(network), node, other)
 
 
 def can_carry(network, link):
@@ -56,7 +56,7 @@ def can_carry(network, link):
     indices of the messages of U that it can carry first."""
     require_link(network, link)
     sender, receiver = network.links[link]
-    margins = _feasible_margins(network)
+    margins = feasible_margins(network)
     union = _union_without(network, margins, receiver, sender)
     # The receiver is in the union, so what it can derive by itself can be derived there.
     span = margins.spans[receiver if union is None else union]
@@ -67,14 +67,10 @@ def can_carry(network, link):
     return (union, tuple(indices))
 
 
-def _first_margins(network):
-    spans = {node: spanned(masks) for node, masks in first_masks(network).items()}
-    return Margins(spans, network.links)
-
-
-def _feasible_margins(network):
-    margins = _first_margins(network)
-    if margins.first_deficient() is not None:
+def feasible_margins(network):
+    """All sets of nodes of a network of which none must be deficient."""
+    margins = margins_of(network)
+    if not margins.is_feasible():
         raise NotFeasible("some set is deficient")
     return margins
 

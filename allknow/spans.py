@@ -1,7 +1,7 @@
 """What can be derived from messages, and how (part B)."""
 
 from allknow.errors import KnowError
-from allknow.networks import first_letters
+from allknow.networks import first_letters, is_ascending
 from allknow.parities import PARITY_LETTERS
 from allknow.parities import basis_indices, is_odd, is_parity, mask_of, remainder, spanned, text_of
 
@@ -95,6 +95,13 @@ def assignments(variables, messages, told):
 def parity_mask(text):
     """The number of a text that must be a parity or an assignment of the letters a to h."""
     if not is_parity(text):
+        raise BadParity(text)
+    return mask_of(text)
+
+
+def network_mask(network, text):
+    """The number of a text that must be a parity or an assignment of the variables of a network."""
+    if not is_ascending(network.variable_letters(), text):
         raise BadParity(text)
     return mask_of(text)
 

@@ -1,4 +1,4 @@
-"""[0.3]: of the functions of parts B to E together: what they return, what they leave alone, how long they take."""
+"""[0.3]: of the functions of parts B to G together: what they return, what they leave alone, how long they take."""
 
 import copy
 import itertools
@@ -6,7 +6,9 @@ import random
 import time
 import unittest
 
-from allknow import node_sets, schedules, spans, steps
+from allknow import formulas, injections, node_sets, protocols, schedules, spans, steps
+from allknow.formulas import Formula
+from allknow.protocols import Relay
 from allknow.texts import read_network
 from tests import reference
 from tests.samples import DEFICIENT, FEASIBLE, GREATEST, facts
@@ -16,6 +18,24 @@ MESSAGES = ["ab", "bc", "", "ac", "ab"]
 STEPS = [[0, "ab"], (1, "ab"), [2, "ab"], (3, "a")]
 SENT = [[0, "A", 0], (1, "A", 1), [2, "A", 0]]
 NO_SCHEDULE = [[0, "A", 0], [0, "A", 0]]
+PROTOCOL = [[0, "0^1"], (1, "0"), [2, "0&!1|n"]]
+LINE = read_network("2: a | b | ; AB, BC")
+
+MODULES = (spans, steps, node_sets, schedules, formulas, protocols, injections)
+# Functions of these files that the others use, and that the document does not list.
+HELPERS = ("parity_mask", "network_mask", "feasible_margins")
+
+
+def formula_tells(text, bits):
+    """All that a formula tells."""
+    formula = Formula(text)
+    return (formula.indices(), formula.value(bits), formula.normal())
+
+
+def relay_tells(network, steps_told, node, assignment):
+    """All that a protocol tells."""
+    relay = Relay(network, steps_told)
+    return (relay.outputs(assignment), relay.observations(node, assignment), relay.decoders(), relay.confused(node))
 
 CALLS = (
     (spans.message_rank, (MESSAGES,)),
@@ -54,6 +74,21 @@ CALLS = (
     (schedules.holdings, (EXAMPLE, NO_SCHEDULE)),
     (schedules.tree, (EXAMPLE, SENT, "A", 0)),
     (schedules.time_slots, (EXAMPLE, SENT)),
+    (formulas.normal_text, ("!(0&1)^2|10",)),
+    (formula_tells, ("!(0&1)^2|10", [True, False])),
+    (relay_tells, (EXAMPLE, PROTOCOL, "C", "ab")),
+    (relay_tells, (EXAMPLE, [], "A", "")),
+    (protocols.routed, (EXAMPLE, SENT)),
+    (protocols.routed, (EXAMPLE, NO_SCHEDULE)),
+    (injections.minimum_counts, (LINE,)),
+    (injections.certificate, (LINE,)),
+    (injections.deficient_set, (LINE, [0, 5, 5])),
+    (injections.deficient_set, (LINE, [2, 2, 2])),
+    (injections.reduced_counts, (LINE, [2, 2, 2])),
+    (injections.reduced_counts, (LINE, [0, 5, 5])),
+    (injections.lower_bound, (LINE, ["A", "BC"])),
+    (injections.injections, (LINE, [2, 2, 2])),
+    (injections.injections, (LINE, [0, 5, 5])),
 )
 
 WRONG_CALLS = (
@@ -64,6 +99,13 @@ WRONG_CALLS = (
     (steps.earliest, (EXAMPLE, [[0, "a"]], "B", "ba")),
     (schedules.is_complete, (EXAMPLE, [[0, "A", 0], [9, "A", 0]])),
     (schedules.tree, (EXAMPLE, [[0, "A", 0]], "A", 9)),
+    (formula_tells, ("0^1^2^3^4^5^6", [True])),
+    (relay_tells, (EXAMPLE, [[0, "0"], [0, "1"]], "C", "ab")),
+    (relay_tells, (EXAMPLE, PROTOCOL, "C", "ba")),
+    (protocols.routed, (EXAMPLE, [[0, "A", 0], [9, "A", 0]])),
+    (injections.reduced_counts, (LINE, [2, 2, -1])),
+    (injections.lower_bound, (LINE, ["A", "AB", "C"])),
+    (injections.injections, (LINE, [2, 2])),
 )
 
 LONGEST = 5
@@ -86,10 +128,10 @@ def within(value):
 class Answers(unittest.TestCase):
     def test_every_function_is_called_here(self):
         called = {function for function, _ in CALLS}
-        for module in (spans, steps, node_sets, schedules):
+        for module in MODULES:
             for name, value in vars(module).items():
                 is_own = getattr(value, "__module__", "") == module.__name__ and not isinstance(value, type)
-                if is_own and not name.startswith("_") and name != "parity_mask":
+                if is_own and not name.startswith("_") and name not in HELPERS:
                     self.assertIn(value, called, name)
 
     def test_no_function_changes_its_arguments(self):
@@ -191,6 +233,38 @@ class Speed(unittest.TestCase):
             self.quickly(schedules.tree, network, told, "A", 0)
             self.quickly(schedules.time_slots, network, told)
         self.assertEqual(max(lengths), 16)
+
+    def test_formulas(self):
+        for text in ("0|1|2|3|4|5", "!(" * 19 + "0|1" + ")" * 19, "!" * 59 + "0", "&".join(["99"] * 20),
+                     "(0|1)&(2|3)&(4|5)|(0|2)&(1|3)|!(4|5)&!(0|1)|!(2&3&4)"):
+            formula = Formula(text)
+            self.quickly(formula.normal)
+            self.quickly(formula.value, (True,) * 100)
+        for wrong in ("(" * 60, "!" * 60, "0&" * 30, "x" * 1000000):
+            self.quickly(self.assertRaises, ValueError, Formula, wrong)
+
+    def test_protocols(self):
+        for text in GREATEST:
+            network = read_network(text)
+            told = [(link, "(0|1)&(2|3)^!(1&2)|!(0^1^2^3)&(!0|!1|!2)^(3&2&1&0|1^2)") for link in range(16)]
+            relay = self.quickly(Relay, network, told)
+            self.assertEqual(len(self.quickly(relay.outputs, "abcdef")), 16)
+            self.quickly(relay.decoders)
+            for nodes in ("A", "BDF", "ABCDEF"):
+                self.quickly(relay.confused, nodes)
+            self.quickly(relay.observations, "F", "ace")
+            self.quickly(protocols.routed, network, schedules.first_schedule(network) or ())
+
+    def test_injections(self):
+        for text in GREATEST + ("6: a, b, c, d | e | f | | | ;",):
+            network = read_network(text)
+            counts = self.quickly(injections.minimum_counts, network)
+            self.quickly(injections.certificate, network)
+            for told in (counts, (6,) * 6, (10 ** 100,) * 6):
+                self.quickly(injections.deficient_set, network, told)
+                self.quickly(injections.reduced_counts, network, told)
+                self.quickly(injections.injections, network, told)
+            self.quickly(injections.lower_bound, network, tuple("ABCDEF"))
 
     def test_all_orders_of_the_links_of_a_network(self):
         network = read_network(FEASIBLE[6])

@@ -2,6 +2,7 @@
 
 import unittest
 
+from allknow import formulas, injections, protocols
 from allknow.errors import KnowError
 from allknow.networks import BadNetwork, NoLink, NoMessage, NoNode, NoSet
 from allknow.node_sets import NotFeasible
@@ -10,7 +11,9 @@ from allknow.steps import Fault
 from allknow.texts import BadOrder, BadText, TooLong
 
 
-KINDS = (BadNetwork, NoNode, NoSet, NoLink, NoMessage, BadText, TooLong, BadOrder, BadParity, Fault, NotFeasible)
+KINDS = (BadNetwork, NoNode, NoSet, NoLink, NoMessage, BadText, TooLong, BadOrder, BadParity, Fault, NotFeasible,
+         formulas.BadFormula, formulas.TooLong, formulas.TooManyInputs, protocols.BadStep, injections.BadCounts,
+         injections.NotDisjoint)
 
 
 class ErrorClasses(unittest.TestCase):
@@ -50,8 +53,19 @@ class ErrorClasses(unittest.TestCase):
         self.assertEqual(Fault(3).number, 3)
         self.assertEqual(Fault(number=0).number, 0)
 
+    def test_bad_formula_has_its_position(self):
+        self.assertEqual(formulas.BadFormula(5).position, 5)
+        self.assertEqual(formulas.BadFormula(position=0).position, 0)
+
+    def test_bad_step_has_its_attributes(self):
+        error = protocols.BadStep(2, "used")
+        self.assertEqual((error.number, error.reason), (2, "used"))
+        error = protocols.BadStep(number=0, reason="link")
+        self.assertEqual((error.number, error.reason), (0, "link"))
+
     def test_the_others_can_be_raised_without_anything(self):
-        for kind in (KnowError, NoNode, NoSet, NoLink, NoMessage, TooLong, BadOrder, NotFeasible):
+        for kind in (KnowError, NoNode, NoSet, NoLink, NoMessage, TooLong, BadOrder, NotFeasible, formulas.TooLong,
+                     formulas.TooManyInputs, injections.BadCounts, injections.NotDisjoint):
             with self.subTest(kind=kind.__name__):
                 with self.assertRaises(kind):
                     raise kind()

@@ -1,6 +1,7 @@
 """The form of the package: its files, their sizes and imports, and that the interface stands where it is listed."""
 
 import ast
+import builtins
 import pathlib
 import unittest
 
@@ -48,6 +49,23 @@ INTERFACE = {
         "holdings": ["network", "transmissions"], "tree": ["network", "transmissions", "origin", "index"],
         "time_slots": ["network", "transmissions"],
     },
+    "formulas.py": {
+        "BadFormula": None, "BadFormula.__init__": ["self", "position"], "TooLong": None, "TooManyInputs": None,
+        "Formula": None, "Formula.__init__": ["self", "text"], "Formula.indices": ["self"],
+        "Formula.value": ["self", "bits"], "Formula.normal": ["self"], "normal_text": ["text"],
+    },
+    "protocols.py": {
+        "BadStep": None, "BadStep.__init__": ["self", "number", "reason"],
+        "Relay": None, "Relay.__init__": ["self", "network", "steps"], "Relay.outputs": ["self", "assignment"],
+        "Relay.observations": ["self", "node", "assignment"], "Relay.decoders": ["self"],
+        "Relay.confused": ["self", "nodes"], "routed": ["network", "transmissions"],
+    },
+    "injections.py": {
+        "BadCounts": None, "NotDisjoint": None,
+        "minimum_counts": ["network"], "certificate": ["network"], "deficient_set": ["network", "counts"],
+        "reduced_counts": ["network", "counts"], "lower_bound": ["network", "sets"],
+        "injections": ["network", "counts"],
+    },
 }
 
 LIBRARY = {
@@ -57,6 +75,20 @@ LIBRARY = {
                   "zip_longest"},
     "collections": {"defaultdict", "deque"},
 }
+
+BUILTINS = set("""len range enumerate zip min max sum abs sorted reversed int str bool list tuple dict set isinstance ord repr
+any all divmod iter next Exception ValueError TypeError KeyError IndexError LookupError""".split())
+
+BUILTIN_METHODS = set("""append clear copy count endswith extend find get index insert isalnum isalpha isdigit islower
+isspace isupper items join keys ljust lower lstrip partition pop remove replace reverse rfind rjust rpartition rsplit rstrip
+setdefault split splitlines startswith strip update upper values zfill bit_length add discard""".split())
+
+BARRED = set("""register mro elements open input law version_info with_traceback add_note attrgetter breakpoint compile
+copyright credits delattr dir eval exec exit gc getattr globals hasattr help id importlib license locals methodcaller os quit
+setattr super type vars sys""".split())
+
+STATEMENTS = (ast.Assign, ast.AugAssign, ast.If, ast.While, ast.For, ast.Return, ast.Raise, ast.Delete, ast.Try, ast.Expr,
+              ast.Pass, ast.Break, ast.Continue, ast.FunctionDef, ast.ClassDef, ast.ImportFrom)
 
 
 def files():
@@ -119,6 +151,64 @@ class Form(unittest.TestCase):
         tree = ast.parse((PACKAGE / f"{module}.py").read_text(encoding="utf-8"))
         constants = {target.id for line in tree.body if isinstance(line, ast.Assign) for target in line.targets}
         self.assertLessEqual(names, constants | set(defined(tree)))
+
+    def test_statements_and_expressions(self):
+        for path, text in files():
+            for node in ast.walk(ast.parse(text)):
+                with self.subTest(file=path.name, line=getattr(node, "lineno", None)):
+                    if isinstance(node, ast.stmt):
+                        self.assertIsInstance(node, STATEMENTS)
+                    if isinstance(node, ast.Constant):
+                        self.assertNotIsInstance(node.value, (float, complex, bytes))
+                    self.assertNotIsInstance(node, (ast.Div, ast.Await, ast.Starred, ast.NamedExpr))
+                    self.assertEqual(getattr(node, "decorator_list", []), [])
+
+    def test_names(self):
+        for path, text in files():
+            for node in ast.walk(ast.parse(text)):
+                name = getattr(node, "id", None) or getattr(node, "attr", None) or getattr(node, "arg", None)
+                if isinstance(name, str):
+                    with self.subTest(file=path.name, line=getattr(node, "lineno", None)):
+                        self.assertNotIn(name, BARRED)
+                if isinstance(node, ast.Name) and hasattr(builtins, node.id):
+                    with self.subTest(file=path.name, line=node.lineno):
+                        self.assertIn(node.id, BUILTINS)
+                        self.assertIsInstance(node.ctx, ast.Load)
+
+    def test_names_of_one_file_mean_one_thing(self):
+        for path, text in files():
+            tree = ast.parse(text)
+            fixed = {alias.name for node in tree.body if isinstance(node, ast.ImportFrom) for alias in node.names}
+            fixed |= {node.name for node in tree.body if isinstance(node, (ast.ClassDef, ast.FunctionDef))}
+            for node in ast.walk(tree):
+                with self.subTest(file=path.name, line=getattr(node, "lineno", None)):
+                    if isinstance(node, ast.arg):
+                        self.assertNotIn(node.arg, fixed)
+                    if isinstance(node, ast.Name) and isinstance(node.ctx, ast.Store):
+                        self.assertNotIn(node.id, fixed)
+
+    def test_methods(self):
+        own = set()
+        for path, text in files():
+            own |= {name.partition(".")[2] for name in defined(ast.parse(text)) if "." in name}
+        for path, text in files():
+            for node in ast.walk(ast.parse(text)):
+                if isinstance(node, ast.Call) and isinstance(node.func, ast.Attribute):
+                    with self.subTest(file=path.name, line=node.lineno):
+                        self.assertIn(node.func.attr, own | BUILTIN_METHODS)
+
+    def test_no_file_imports_itself_through_others(self):
+        imports = {}
+        for path, text in files():
+            imports[path.stem] = {node.module.partition(".")[2] for node in ast.walk(ast.parse(text))
+                                  if isinstance(node, ast.ImportFrom) and node.module.startswith("allknow.")}
+        for name in imports:
+            reached, waiting = set(), [name]
+            while waiting:
+                for other in imports[waiting.pop()] - reached:
+                    reached.add(other)
+                    waiting.append(other)
+            self.assertNotIn(name, reached)
 
     def test_the_interface_stands_where_it_is_listed(self):
         for name, listed in INTERFACE.items():
