@@ -97,6 +97,11 @@ def enters(link, nodes):
     return link[0] not in nodes and link[1] in nodes
 
 
+def enters_any(link, sets):
+    """True if a link enters one of some sets of nodes."""
+    return any([enters(link, nodes) for nodes in sets])
+
+
 def entering(links, nodes):
     """The ascending list of the numbers of the links that enter a set of nodes."""
     return [number for number, link in enumerate(links) if enters(link, nodes)]

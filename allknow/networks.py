@@ -125,11 +125,16 @@ def is_ascending(letters, text):
     return True
 
 
+def is_count(value):
+    """True if a value is a whole number from 0 on, otherwise False."""
+    return isinstance(value, int) and not isinstance(value, bool) and value >= 0
+
+
 def are_counts(values, count):
     """True if values are so many whole numbers from 0 on, otherwise False."""
     if not isinstance(values, (list, tuple)) or len(values) != count:
         return False
-    return all([isinstance(value, int) and not isinstance(value, bool) and value >= 0 for value in values])
+    return all([is_count(value) for value in values])
 
 
 def _check_variables(variables):

@@ -116,11 +116,16 @@ class Course:
 
     def carried(self, link, parity):
         """A new one: what it is like after a link carried a parity."""
+        other = self.without((link,))
+        other.rows[self.links[link][1]].append(parity)
+        return other
+
+    def without(self, links):
+        """A new one: what it is like without some of the links."""
         other = Course(self.network)
         other.rows = {node: list(row) for node, row in self.rows.items()}
         other.had = {node: list(row) for node, row in self.had.items()}
-        other.links = {number: text for number, text in self.links.items() if number != link}
-        other.rows[self.links[link][1]].append(parity)
+        other.links = {number: text for number, text in self.links.items() if number not in links}
         return other
 
     def can_carry(self, link, parity):
@@ -147,6 +152,27 @@ class Course:
     def next_ones(self):
         """All possible transmissions after which no set is deficient, each tried."""
         return [transmission for transmission in self.possible() if not self.after(transmission).deficient()]
+
+
+def suffices(rows, links):
+    """Whether no set is deficient with what the nodes have, by letters, and with these links, by numbers."""
+    return not any(set_facts(nodes, rows, links)[4] for nodes in node_sets(rows))
+
+
+def failing(rows, links, size):
+    """The first set of so many links without which some set is deficient, by trying all, or None."""
+    for lost in itertools.combinations(sorted(links), size):
+        if not suffices(rows, {number: text for number, text in links.items() if number not in lost}):
+            return lost
+    return None
+
+
+def tolerance(rows, links):
+    """How many links can be left out, whichever they are, by trying all; None if all can."""
+    for size in range(len(links) + 1):
+        if failing(rows, links, size) is not None:
+            return size - 1
+    return None
 
 
 def after_all(network, transmissions):

@@ -1,4 +1,4 @@
-"""[0.3]: of the functions of parts B to G together: what they return, what they leave alone, how long they take."""
+"""[0.3]: of the functions of parts B to K together: what they return, what they leave alone, how long they take."""
 
 import copy
 import itertools
@@ -6,9 +6,12 @@ import random
 import time
 import unittest
 
-from allknow import formulas, injections, node_sets, protocols, schedules, spans, steps
+from allknow import (changes, failures, formulas, injections, node_sets, protocols, schedules, sessions, spans, steps,
+                     targets)
+from allknow.failures import AdaptiveSchedule
 from allknow.formulas import Formula
 from allknow.protocols import Relay
+from allknow.sessions import Session
 from allknow.texts import read_network
 from tests import reference
 from tests.samples import DEFICIENT, FEASIBLE, GREATEST, facts
@@ -21,7 +24,10 @@ NO_SCHEDULE = [[0, "A", 0], [0, "A", 0]]
 PROTOCOL = [[0, "0^1"], (1, "0"), [2, "0&!1|n"]]
 LINE = read_network("2: a | b | ; AB, BC")
 
-MODULES = (spans, steps, node_sets, schedules, formulas, protocols, injections)
+SPARE = read_network("1: a, a | | ; AB, AC, BC, AB, CB")
+EVENTS = [["sent", 0, "A", 0], ("learned", "C", "ab"), ["closed", 2], ("opened", 2), ["added", "CB"], ("lost", 3)]
+
+MODULES = (spans, steps, node_sets, schedules, formulas, protocols, injections, failures, changes, targets, sessions)
 # Functions of these files that the others use, and that the document does not list.
 HELPERS = ("parity_mask", "network_mask", "feasible_margins")
 
@@ -36,6 +42,27 @@ def relay_tells(network, steps_told, node, assignment):
     """All that a protocol tells."""
     relay = Relay(network, steps_told)
     return (relay.outputs(assignment), relay.observations(node, assignment), relay.decoders(), relay.confused(node))
+
+
+def adaptive_tells(network, arrivals):
+    """All that an adaptive schedule tells."""
+    schedule = AdaptiveSchedule(network)
+    told = [(schedule.choice(), schedule.tell(arrived), schedule.lost(), schedule.deficient()) for arrived in arrivals]
+    return tuple(told)
+
+
+def session_tells(network, events, node, parity):
+    """All that a session tells, but for its network, which is told by facts."""
+    session = Session(network)
+    told = tuple(session.record(event) for event in events)
+    asked = (session.remaining(), session.first_deficient(), session.next_transmission(), session.holdings(node),
+             session.knows(node, parity), session.can_lose(0), session.links(), session.journal())
+    return (told, asked, facts(session.network()), session.undo())
+
+
+def replayed_tells(network, events):
+    """What a session that is replayed tells."""
+    return sessions.replayed(network, events).journal()
 
 CALLS = (
     (spans.message_rank, (MESSAGES,)),
@@ -89,7 +116,36 @@ CALLS = (
     (injections.lower_bound, (LINE, ["A", "BC"])),
     (injections.injections, (LINE, [2, 2, 2])),
     (injections.injections, (LINE, [0, 5, 5])),
+    (failures.tolerance, (SPARE,)),
+    (failures.needed_links, (EXAMPLE,)),
+    (failures.smallest_failure, (SPARE,)),
+    (failures.schedule_without, (SPARE, [3, 0, 3])),
+    (failures.schedule_without, (SPARE, [2, 1])),
+    (adaptive_tells, (SPARE, [True, False, True])),
+    (adaptive_tells, (EXAMPLE, [False])),
+    (changes.is_feasible, (EXAMPLE,)),
+    (changes.reduced, (SPARE,)),
+    (changes.reduced, (LINE,)),
+    (changes.with_link, (LINE, "CA")),
+    (changes.helping_links, (SPARE,)),
+    (changes.with_message, (SPARE, "B", "a")),
+    (changes.removable_messages, (SPARE,)),
+    (changes.cheapest, (SPARE, [5, 1, 1, 4, 2])),
+    (changes.cheapest, (LINE, [1, 1])),
+    (changes.bound, (SPARE, [5, 1, 1, 4, 2], [["B", 2], ("C", 1)])),
+    (targets.first_set, (LINE, "BC")),
+    (targets.is_feasible_for, (LINE, "BC")),
+    (targets.feasible_alone, (LINE, "ABC")),
+    (targets.critical_links, (EXAMPLE, "BC")),
+    (targets.delivery, (EXAMPLE, "BC", "C")),
+    (targets.is_complete_for, (EXAMPLE, "BC", SENT)),
+    (session_tells, (EXAMPLE, EVENTS, "B", "ab")),
+    (session_tells, (EXAMPLE, [], "A", "")),
+    (replayed_tells, (EXAMPLE, EVENTS)),
 )
+
+# Functions that return an object, which is asked by one of those above.
+ASKED = (sessions.replayed,)
 
 WRONG_CALLS = (
     (spans.assignments, (3, ["ab", "ba", "c"], [True, False, True])),
@@ -106,9 +162,20 @@ WRONG_CALLS = (
     (injections.reduced_counts, (LINE, [2, 2, -1])),
     (injections.lower_bound, (LINE, ["A", "AB", "C"])),
     (injections.injections, (LINE, [2, 2])),
+    (failures.schedule_without, (SPARE, [3, 9, 0])),
+    (adaptive_tells, (SPARE, [False] * 9)),
+    (changes.cheapest, (SPARE, [5, 1, 1, 4, -2])),
+    (changes.bound, (SPARE, [5, 1, 1, 4, 2], [["B", 2], ["A", 1]])),
+    (targets.is_complete_for, (EXAMPLE, "BC", [[0, "A", 0], [9, "A", 0]])),
+    (session_tells, (EXAMPLE, EVENTS + [["lost", 3]], "B", "ab")),
+    (replayed_tells, (EXAMPLE, EVENTS + [["lost", 3]])),
 )
 
 LONGEST = 5
+
+# Many messages, and as many links as there can be, so that much can come next.
+MANY_LINKS = ("6: a, b, c, d | e, f, ab, cd | abc, def, ace, bdf | a, c, e, ace | b, d, f, bdf | abcdef, ab, cd, ef ;"
+              " AB, BA, BC, CB, CD, DC, DE, ED, EF, FE, FA, AF, AB, BA, CD, DC")
 
 
 def as_told(value):
@@ -127,7 +194,7 @@ def within(value):
 
 class Answers(unittest.TestCase):
     def test_every_function_is_called_here(self):
-        called = {function for function, _ in CALLS}
+        called = {function for function, _ in CALLS} | set(ASKED)
         for module in MODULES:
             for name, value in vars(module).items():
                 is_own = getattr(value, "__module__", "") == module.__name__ and not isinstance(value, type)
@@ -265,6 +332,65 @@ class Speed(unittest.TestCase):
                 self.quickly(injections.reduced_counts, network, told)
                 self.quickly(injections.injections, network, told)
             self.quickly(injections.lower_bound, network, tuple("ABCDEF"))
+
+    def test_failures(self):
+        for text in GREATEST + (MANY_LINKS,):
+            network = read_network(text)
+            if node_sets.first_deficient(network) is None:
+                for function in (failures.tolerance, failures.needed_links, failures.smallest_failure):
+                    self.quickly(function, network)
+            self.quickly(failures.schedule_without, network, (15, 3, 3))
+            self.quickly(failures.schedule_without, network, ())
+            for told in (True, False):
+                schedule = self.quickly(AdaptiveSchedule, network)
+                while schedule.choice() is not None:
+                    self.quickly(schedule.tell, told)
+                self.quickly(schedule.deficient)
+
+    def test_changes(self):
+        for text in GREATEST + (MANY_LINKS,):
+            network = read_network(text)
+            for function in (changes.is_feasible, changes.reduced, changes.helping_links, changes.removable_messages):
+                self.quickly(function, network)
+            self.quickly(changes.with_link, network, "FE")
+            self.quickly(changes.with_message, network, "F", "ace")
+            for costs in ((0,) * 16, tuple(range(16)), tuple(range(16, 0, -1)), (10 ** 100,) * 16):
+                self.quickly(changes.cheapest, network, costs)
+                weights = tuple((nodes, 10 ** 50) for nodes in reference.node_sets("ABCDEF"))
+                self.quickly(changes.bound, network, costs, weights)
+
+    def test_the_cheapest_of_as_many_sets_of_links_as_there_can_be(self):
+        # Of 16 links 8 are needed, and sets of links that come later are cheaper.
+        network = read_network("4: a, b, c, d | | ;" + ",".join([" AB"] * 8 + [" AC"] * 8))
+        cost, links = self.quickly(changes.cheapest, network, tuple(range(16, 0, -1)))
+        self.assertEqual((cost, links), (12 + 11 + 10 + 9 + 4 + 3 + 2 + 1, (4, 5, 6, 7, 12, 13, 14, 15)))
+
+    def test_targets(self):
+        for text in GREATEST + (MANY_LINKS,):
+            network = read_network(text)
+            for nodes in ("A", "F", "BDF", "ABCDEF"):
+                for function in (targets.first_set, targets.is_feasible_for, targets.feasible_alone,
+                                 targets.critical_links):
+                    self.quickly(function, network, nodes)
+                told = self.quickly(targets.delivery, network, nodes, nodes[-1])
+                self.quickly(targets.is_complete_for, network, nodes, told or ())
+
+    def test_sessions(self):
+        for text in GREATEST + (MANY_LINKS,):
+            network = read_network(text)
+            events = [("closed" if number % 2 == 0 else "opened", number % 32 // 2) for number in range(60)]
+            session = self.quickly(sessions.replayed, network, events)
+            for function in (session.remaining, session.next_transmission, session.first_deficient, session.network,
+                             session.links, session.journal):
+                self.quickly(function)
+            self.quickly(session.can_lose, 15)
+            self.quickly(session.knows, "F", "abcdef")
+            start = time.monotonic()
+            while session.undo():
+                session.holdings("F")
+            while session.next_transmission():
+                session.record(("sent",) + session.next_transmission())
+            self.assertLess(time.monotonic() - start, LONGEST)
 
     def test_all_orders_of_the_links_of_a_network(self):
         network = read_network(FEASIBLE[6])

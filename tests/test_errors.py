@@ -2,7 +2,8 @@
 
 import unittest
 
-from allknow import formulas, injections, protocols
+from allknow import (changes, failures, formulas, injections, networks, node_sets, protocols, schedules, sessions, spans,
+                     steps, targets, texts)
 from allknow.errors import KnowError
 from allknow.networks import BadNetwork, NoLink, NoMessage, NoNode, NoSet
 from allknow.node_sets import NotFeasible
@@ -13,7 +14,8 @@ from allknow.texts import BadOrder, BadText, TooLong
 
 KINDS = (BadNetwork, NoNode, NoSet, NoLink, NoMessage, BadText, TooLong, BadOrder, BadParity, Fault, NotFeasible,
          formulas.BadFormula, formulas.TooLong, formulas.TooManyInputs, protocols.BadStep, injections.BadCounts,
-         injections.NotDisjoint)
+         injections.NotDisjoint, failures.NothingSent, changes.BadCosts, changes.BadWeights, targets.NoTarget,
+         sessions.BadEvent, sessions.Rejected)
 
 
 class ErrorClasses(unittest.TestCase):
@@ -24,6 +26,7 @@ class ErrorClasses(unittest.TestCase):
         for kind in KINDS:
             with self.subTest(kind=kind.__name__):
                 self.assertTrue(issubclass(kind, KnowError))
+                self.assertTrue(issubclass(kind, ValueError))
                 self.assertIsNot(kind, KnowError)
 
     def test_none_is_under_another_one(self):
@@ -63,9 +66,26 @@ class ErrorClasses(unittest.TestCase):
         error = protocols.BadStep(number=0, reason="link")
         self.assertEqual((error.number, error.reason), (0, "link"))
 
+    def test_bad_weights_and_rejected_have_their_number(self):
+        for kind in (changes.BadWeights, sessions.Rejected):
+            self.assertEqual(kind(3).number, 3)
+            self.assertEqual(kind(number=0).number, 0)
+
+    def test_bad_event_has_its_reason(self):
+        self.assertEqual(sessions.BadEvent("word").reason, "word")
+        self.assertEqual(sessions.BadEvent(reason="many").reason, "many")
+
+    def test_no_error_class_is_left_out_here(self):
+        for module in (networks, texts, spans, steps, node_sets, schedules, formulas, protocols, injections, failures,
+                       changes, targets, sessions):
+            for value in vars(module).values():
+                if isinstance(value, type) and issubclass(value, Exception) and value.__module__ == module.__name__:
+                    self.assertIn(value, KINDS)
+
     def test_the_others_can_be_raised_without_anything(self):
         for kind in (KnowError, NoNode, NoSet, NoLink, NoMessage, TooLong, BadOrder, NotFeasible, formulas.TooLong,
-                     formulas.TooManyInputs, injections.BadCounts, injections.NotDisjoint):
+                     formulas.TooManyInputs, injections.BadCounts, injections.NotDisjoint, failures.NothingSent,
+                     changes.BadCosts, targets.NoTarget):
             with self.subTest(kind=kind.__name__):
                 with self.assertRaises(kind):
                     raise kind()

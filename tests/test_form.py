@@ -66,6 +66,33 @@ INTERFACE = {
         "reduced_counts": ["network", "counts"], "lower_bound": ["network", "sets"],
         "injections": ["network", "counts"],
     },
+    "failures.py": {
+        "NothingSent": None, "tolerance": ["network"], "needed_links": ["network"], "smallest_failure": ["network"],
+        "schedule_without": ["network", "links"],
+        "AdaptiveSchedule": None, "AdaptiveSchedule.__init__": ["self", "network"],
+        "AdaptiveSchedule.choice": ["self"], "AdaptiveSchedule.tell": ["self", "arrived"],
+        "AdaptiveSchedule.lost": ["self"], "AdaptiveSchedule.deficient": ["self"],
+    },
+    "changes.py": {
+        "BadCosts": None, "BadWeights": None, "BadWeights.__init__": ["self", "number"],
+        "is_feasible": ["network"], "reduced": ["network"], "with_link": ["network", "link"],
+        "helping_links": ["network"], "with_message": ["network", "node", "message"],
+        "removable_messages": ["network"], "cheapest": ["network", "costs"], "bound": ["network", "costs", "weights"],
+    },
+    "targets.py": {
+        "NoTarget": None, "first_set": ["network", "targets"], "is_feasible_for": ["network", "targets"],
+        "feasible_alone": ["network", "targets"], "critical_links": ["network", "targets"],
+        "delivery": ["network", "targets", "target"], "is_complete_for": ["network", "targets", "transmissions"],
+    },
+    "sessions.py": {
+        "BadEvent": None, "BadEvent.__init__": ["self", "reason"],
+        "Rejected": None, "Rejected.__init__": ["self", "number"],
+        "Session": None, "Session.__init__": ["self", "network"], "Session.record": ["self", "event"],
+        "Session.undo": ["self"], "Session.remaining": ["self"], "Session.first_deficient": ["self"],
+        "Session.next_transmission": ["self"], "Session.holdings": ["self", "node"],
+        "Session.knows": ["self", "node", "parity"], "Session.can_lose": ["self", "link"], "Session.links": ["self"],
+        "Session.network": ["self"], "Session.journal": ["self"], "replayed": ["network", "events"],
+    },
 }
 
 LIBRARY = {
